@@ -1,0 +1,1 @@
+"""A warehouse of tyres with marks: what is sent, claimed and recalled."""
