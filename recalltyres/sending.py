@@ -51,23 +51,18 @@ def send_tyre(house, number, customer):
     return [hand_over(house, tyre, customer)]
 
 
-def sendable_numbers(house):
-    """The numbers of the tyres in racks that aren't recalled, rising."""
-    numbers = []
-    for number in range(len(house.tyres)):
-        tyre = house.tyres[number]
-        if tyre.stage == IN_RACK and not is_recalled(house, tyre):
-            numbers.append(number)
-    return numbers
+def sendable_tyres(house):
+    """The tyres in racks that aren't recalled, by rising number."""
+    return [tyre for tyre in house.tyres if tyre.stage == IN_RACK and not is_recalled(house, tyre)]
 
 
-def oldest_number(house, numbers):
-    """The oldest tyre of these, which rise and are not none."""
-    best = numbers[0]
-    for number in numbers:
+def oldest_tyre(tyres):
+    """The oldest of these tyres, whose numbers rise and which are not none."""
+    best = tyres[0]
+    for tyre in tyres:
         # Only a lesser week wins: of alike weeks the lesser number, met first, stays.
-        if house.tyres[number].marks[WEEK_PLACE] < house.tyres[best].marks[WEEK_PLACE]:
-            best = number
+        if tyre.marks[WEEK_PLACE] < best.marks[WEEK_PLACE]:
+            best = tyre
     return best
 
 
@@ -75,11 +70,11 @@ def send_oldest(house, place, value, customer):
     """The call oldest."""
     if is_no_mark(place, value) or customer > HIGHEST_CUSTOMER:
         return [OUT_OF_RANGE]
-    numbers = [number for number in sendable_numbers(house) if has_mark(house.tyres[number], place, value)]
-    if len(numbers) == 0:
+    fitting = [tyre for tyre in sendable_tyres(house) if has_mark(tyre, place, value)]
+    if len(fitting) == 0:
         return [NONE_THERE]
-    number = oldest_number(house, numbers)
-    return [number, hand_over(house, house.tyres[number], customer)]
+    tyre = oldest_tyre(fitting)
+    return [tyre.number, hand_over(house, tyre, customer)]
 
 
 def claim_tyre(house, number):

@@ -1,7 +1,7 @@
 """The calls rack, put, move and days."""
 
 from recalltyres.refusals import NO_SUCH, NOT_SO, OUT_OF_RANGE, SO_ALREADY, TOO_MANY
-from recalltyres.warehouse import HIGHEST_VALUE, IN_RACK, PLACES, Tyre, is_full, lacks_rack, lacks_tyre
+from recalltyres.warehouse import HIGHEST_VALUE, IN_RACK, PLACES, Tyre, lacks_rack, lacks_tyre, room_left
 
 MOST_RACKS = 8
 LARGEST_RACK = 60
@@ -30,10 +30,11 @@ def put_tyre(house, rack_number, values):
         return [NO_SUCH]
     if not are_five_marks(values):
         return [OUT_OF_RANGE]
-    if len(house.tyres) >= MOST_TYRES or is_full(house, rack_number):
+    if len(house.tyres) >= MOST_TYRES or room_left(house, rack_number) == 0:
         return [TOO_MANY]
-    house.tyres.append(Tyre(list(values), rack_number, house.day))
-    return [len(house.tyres) - 1]
+    number = len(house.tyres)
+    house.tyres.append(Tyre(number, list(values), rack_number, house.day))
+    return [number]
 
 
 def move_tyre(house, number, rack_number):
@@ -45,7 +46,7 @@ def move_tyre(house, number, rack_number):
         return [NOT_SO]
     if tyre.holder == rack_number:
         return [SO_ALREADY]
-    if is_full(house, rack_number):
+    if room_left(house, rack_number) == 0:
         return [TOO_MANY]
     left_rack = tyre.holder
     tyre.holder = rack_number

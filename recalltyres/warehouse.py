@@ -5,6 +5,7 @@ WEEK_PLACE = 4
 HIGHEST_VALUE = 99
 HIGHEST_CUSTOMER = 9
 
+# These are also the numbers that look answers.
 IN_RACK = 0
 SENT = 1
 COME_BACK = 2
@@ -13,7 +14,8 @@ COME_BACK = 2
 class Tyre:
     """One tyre; it keeps its customer and the day of sending when it has come back."""
 
-    def __init__(self, marks, rack_number, day):
+    def __init__(self, number, marks, rack_number, day):
+        self.number = number
         self.marks = marks
         self.stage = IN_RACK
         # One value serves for both: a tyre that was sent is never in a rack again.
@@ -23,7 +25,7 @@ class Tyre:
 
 
 class Warehouse:
-    """Racks are kept as their sizes, recalled marks as pairs of place and value."""
+    """Racks are kept as their sizes, tyres by rising number, recalled marks as pairs of place and value."""
 
     def __init__(self):
         self.day = 0
@@ -52,9 +54,14 @@ def has_mark(tyre, place, value):
     return tyre.marks[place] == value
 
 
+def has_any(tyre, marks):
+    """Whether the tyre has one of these marks, or several."""
+    return any([has_mark(tyre, mark[0], mark[1]) for mark in marks])
+
+
 def is_recalled(house, tyre):
     """Whether the tyre has one of the recalled marks."""
-    return any([has_mark(tyre, mark[0], mark[1]) for mark in house.recalled])
+    return has_any(tyre, house.recalled)
 
 
 def tyres_with(house, place, value):
@@ -72,7 +79,24 @@ def claimed_tyres(house):
     return [tyre for tyre in house.tyres if tyre.claimed]
 
 
-def is_full(house, rack_number):
-    """Whether the rack holds as many tyres as it may."""
-    inside = [tyre for tyre in house.tyres if tyre.stage == IN_RACK and tyre.holder == rack_number]
-    return len(inside) >= house.sizes[rack_number]
+def was_sent(tyre):
+    """Whether the tyre is sent, or has come back."""
+    return tyre.stage != IN_RACK
+
+
+def tyres_held(house, stage, holder):
+    """The tyres that this rack or this customer has, by whether the stage is in a rack or sent."""
+    return [tyre for tyre in house.tyres if tyre.stage == stage and tyre.holder == holder]
+
+
+def room_left(house, rack_number):
+    """For how many tyres there's room yet in the rack."""
+    return house.sizes[rack_number] - len(tyres_held(house, IN_RACK, rack_number))
+
+
+def marks_of(tyres):
+    """The marks that some of these tyres have, in order."""
+    marks = []
+    for tyre in tyres:
+        marks.extend([(place, tyre.marks[place]) for place in range(PLACES)])
+    return sorted(set(marks))

@@ -1,5 +1,7 @@
 """A second, slower telling of the document's words, to compare the program's answers with."""
 
+from fractions import Fraction
+
 
 class Model:
     """Tyres are dicts, racks are lists of the tyres in them, and what holds is looked at behind each call."""
@@ -9,7 +11,8 @@ class Model:
 
     def answer(self, call):
         names = ["begin", "rack", "put", "move", "send", "oldest", "days", "claim", "back", "recall", "lift",
-                 "common", "narrow"]
+                 "common", "narrow", "two", "rate", "worst", "who", "left", "blocked", "stock", "with_mark", "sentto",
+                 "next_out", "look", "sums", "state"]
         name = names[call[0]]
         if name != "begin" and not self.begun:
             return [-11]
@@ -35,6 +38,7 @@ class Model:
         self.rooms = []
         self.racks = []
         self.marks = []
+        self.came = []
         self.out = {}
         self.returned = {}
         self.claims = []
@@ -68,6 +72,7 @@ class Model:
             return [-28]
         self.racks[r].append(len(self.marks))
         self.marks.append(list(enumerate(marks)))
+        self.came.append(self.today)
         return [len(self.marks) - 1]
 
     def move(self, t, r):
@@ -83,6 +88,12 @@ class Model:
         self.racks[source].remove(t)
         self.racks[r].append(t)
         return [source]
+
+    def free(self):
+        return {t for inside in self.racks for t in inside if not self.is_recalled(t)}
+
+    def eldest(self, tyres):
+        return min(tyres, key=lambda t: (self.marks[t][4], t))
 
     def hand(self, t, c):
         source = self.rack_of(t)
@@ -104,10 +115,10 @@ class Model:
     def oldest(self, k, v, c):
         if k > 4 or v > 99 or c > 9:
             return [-22]
-        fit = [t for t in self.having(k, v) if self.rack_of(t) is not None and not self.is_recalled(t)]
+        fit = self.having(k, v) & self.free()
         if not fit:
             return [-6]
-        t = min(fit, key=lambda one: (self.marks[one][4], one))
+        t = self.eldest(fit)
         return [t, self.hand(t, c)]
 
     def days(self, n):
@@ -170,3 +181,82 @@ class Model:
             return [-33]
         size, k, v = min((len(self.having(k, v)), k, v) for k, v in self.shared())
         return [k, v, size]
+
+    def two(self):
+        if not self.claims:
+            return [-6]
+        marks = {mark for t in self.claims for mark in self.marks[t]}
+        having = {mark: self.having(*mark) for mark in marks}
+        pairs = [(a, b) for a in marks for b in marks if set(self.claims) <= having[a] | having[b]]
+        if not pairs:
+            return [-33]
+        size, first, second = min((len(having[a] | having[b]), a, b) for a, b in pairs)
+        return [size, *first, *second]
+
+    def rate(self, k, v):
+        if k > 4 or v > 99:
+            return [-22]
+        fit = self.having(k, v)
+        return [len(fit & set(self.claims)), len(fit & (set(self.out) | set(self.returned))), len(fit)]
+
+    def worst(self, n):
+        if n == 0:
+            return [-22]
+        rates = [(k, v, *self.rate(k, v)[:2]) for k in range(5) for v in range(100)]
+        rates = [row for row in rates if row[3] >= n]
+        if not rates:
+            return [-6]
+        return list(min(rates, key=lambda row: (-Fraction(row[2], row[3]), row)))
+
+    def who(self, k, v):
+        if k > 4 or v > 99:
+            return [-22]
+        customers = [c for c in range(10) if any(self.out[t][0] == c for t in self.having(k, v) & set(self.out))]
+        return [len(customers)] + customers
+
+    def left(self):
+        tyres = sorted(t for t in self.out if self.is_recalled(t))
+        return [len(tyres)] + tyres
+
+    def blocked(self):
+        tyres = sorted(t for inside in self.racks for t in inside if self.is_recalled(t))
+        return [len(tyres)] + tyres
+
+    def stock(self, r):
+        if r >= len(self.racks):
+            return [-2]
+        return [self.rooms[r] - len(self.racks[r])] + sorted(self.racks[r])
+
+    def with_mark(self, k, v):
+        if k > 4 or v > 99:
+            return [-22]
+        return [len(self.having(k, v))] + sorted(self.having(k, v))
+
+    def sentto(self, c):
+        if c > 9:
+            return [-22]
+        tyres = sorted(t for t in self.out if self.out[t][0] == c)
+        return [len(tyres)] + tyres
+
+    def next_out(self):
+        if not self.free():
+            return [-6]
+        t = self.eldest(self.free())
+        return [t, self.rack_of(t), self.marks[t][4][1]]
+
+    def look(self, t):
+        if t >= len(self.marks):
+            return [-2]
+        if t in self.out:
+            way = [1, *self.out[t]]
+        elif t in self.returned:
+            way = [2, *self.returned[t]]
+        else:
+            way = [0, self.rack_of(t), self.came[t]]
+        return way + [int(t in self.claims), int(self.is_recalled(t))] + [v for k, v in self.marks[t]]
+
+    def sums(self):
+        return [0, sum(map(len, self.racks)), len(self.out), len(self.returned), len(self.claims)]
+
+    def state(self):
+        return [self.today, len(self.racks), len(self.marks), len(self.recalls)]

@@ -69,6 +69,32 @@ class Language(unittest.TestCase):
                 self.assertEqual(node.level, 0, name)
                 self.assertTrue(node.module.startswith("recalltyres."), name)
 
+    def test_no_two_files_draw_from_one_another(self):
+        drawn = {path.stem: set() for path in files()}
+        for name, node in nodes():
+            if isinstance(node, ast.ImportFrom):
+                drawn[name.removesuffix(".py")].add(node.module.removeprefix("recalltyres."))
+        while drawn:
+            free = {stem for stem in drawn if not drawn[stem] & set(drawn)}
+            self.assertTrue(free, drawn)
+            drawn = {stem: drawn[stem] for stem in drawn if stem not in free}
+
+    def test_no_local_is_called_like_an_import_or_a_class(self):
+        for path in files():
+            tree = ast.parse(path.read_text())
+            inside = [node for top in tree.body if isinstance(top, ast.FunctionDef) for node in ast.walk(top)]
+            bound = {node.arg for node in inside if isinstance(node, ast.arg)}
+            bound |= {node.id for node in inside if isinstance(node, ast.Name) and isinstance(node.ctx, ast.Store)}
+            taken = {node.name for node in ast.walk(tree) if isinstance(node, (ast.alias, ast.ClassDef))}
+            self.assertEqual(bound & taken, set(), path.name)
+
+    def test_sets_are_not_kept_or_walked(self):
+        for name, node in nodes():
+            if isinstance(node, (ast.Assign, ast.Return)) and isinstance(node.value, ast.Call):
+                self.assertNotIn(getattr(node.value.func, "id", ""), ("set", "frozenset"), name)
+            if isinstance(node, (ast.For, ast.comprehension)) and isinstance(node.iter, ast.Call):
+                self.assertNotIn(getattr(node.iter.func, "id", ""), ("set", "frozenset"), name)
+
     def test_names_of_pythons_own(self):
         for name, node in nodes():
             if isinstance(node, ast.Name) and hasattr(builtins, node.id):
